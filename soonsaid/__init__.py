@@ -1,0 +1,1 @@
+"""Soonsaid: what statements say of runs of marks, as soon as it is sure."""
