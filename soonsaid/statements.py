@@ -28,9 +28,11 @@ def is_statement(thing):
 def _is_nested(thing, most):
     """Whether it is a statement of which at most so many stand within one another."""
     # The depth is watched on the way down, so that a thing of any depth is told in a few steps.
-    if most == 0 or type(thing) != tuple or len(thing) == 0 or type(thing[0]) != str:
+    if most == 0 or type(thing) != tuple or len(thing) == 0:
         return False
     word = thing[0]
+    if type(word) != str:
+        return False
     if word == "mark":
         return len(thing) == 2 and is_mark(thing[1]) and thing[1] != ""
     if word == "within":
