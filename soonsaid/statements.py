@@ -62,7 +62,7 @@ def standing_in(statement):
     return found
 
 
-def _once(statements):
+def each_once(statements):
     """A list of the statements in their order, each once."""
     # A search in a list, since as keys of a dict tuples must not be nested deep.
     found = []
@@ -79,7 +79,7 @@ def looks_ahead(statement):
 
 def pasts_in(statement):
     """A list of the befores and sinces in it, each once, each behind those that stand in it."""
-    return _once([part for part in standing_in(statement) if part[0] in PAST])
+    return each_once([part for part in standing_in(statement) if part[0] in PAST])
 
 
 def is_mixed(statement):
@@ -93,19 +93,25 @@ def marks_in(statement):
     return sorted(set(named + [""]))
 
 
-def hung_on(statement):
-    """A list of the statements of which it matters here whether they hold at the next moment."""
+def awaited(statement):
+    """A list of what it hangs on at the next moment by its own word, not by its parts: one statement or none."""
     word = statement[0]
     if word == "next":
         return [statement[1]]
-    # Nothing that looks ahead stands in a before or a since that isn't mixed, so nothing is found there.
-    found = []
     if word == "until":
-        found.append(statement)
+        return [statement]
     if word == "within" and statement[1] > 0:
-        found.append(("within", statement[1] - 1, statement[2]))
-    for part in parts_of(statement):
-        found.extend(hung_on(part))
+        return [("within", statement[1] - 1, statement[2])]
+    return []
+
+
+def hung_on(statement):
+    """A list of the statements of which it matters here whether they hold at the next moment."""
+    found = awaited(statement)
+    # Nothing that looks ahead stands in a before or a since that isn't mixed, so nothing is found there.
+    if statement[0] != "next":
+        for part in parts_of(statement):
+            found.extend(hung_on(part))
     return found
 
 
@@ -114,7 +120,7 @@ def wishes_in(statement):
     wishes = [statement]
     done = 0
     while done < len(wishes):
-        wishes = _once(wishes + hung_on(wishes[done]))
+        wishes = each_once(wishes + hung_on(wishes[done]))
         done += 1
     return wishes
 

@@ -3,6 +3,9 @@
 import itertools
 import random
 
+from soonsaid.plans import begun, stepped
+from soonsaid.statements import is_mixed, wishes_in
+
 A = ("mark", "a")
 B = ("mark", "b")
 YES = ("yes",)
@@ -40,6 +43,25 @@ def large_statements(many, depth):
     """So many statements of at most that depth, the same ones each time."""
     chance = random.Random(20)
     return [grown(chance, depth) for _ in range(many)]
+
+
+def small_told():
+    """Of the statements of depth 1 and 2 those that aren't mixed."""
+    return [statement for statement in small_statements() if not is_mixed(statement)]
+
+
+def large_told(many, depth):
+    """Of so many statements of at most that depth those that can be told mark by mark."""
+    return [statement for statement in large_statements(many, depth)
+            if not is_mixed(statement) and len(wishes_in(statement)) <= 6]
+
+
+def behind(plan, run):
+    """The state behind the marks of the run."""
+    state = begun(plan)
+    for mark in run:
+        state = stepped(plan, state, mark)
+    return state
 
 
 def runs(longest):

@@ -3,6 +3,7 @@ import pathlib
 import unittest
 
 import soonsaid
+from soonsaid.plans import Plan
 
 FOLDER = pathlib.Path(soonsaid.__file__).parent
 
@@ -11,9 +12,14 @@ FUNCTIONS = {
                    "is_mixed": ["statement"], "wishes_in": ["statement"], "pasts_in": ["statement"],
                    "marks_in": ["statement"], "need_told": ["statement"]},
     "meaning": {"holds": ["statement", "run", "at"]},
+    "plans": {"begun": ["plan"], "stepped": ["plan", "state", "mark"], "is_met": ["state"]},
+    "goings": {"reached": ["plan", "state"], "verdict": ["plan", "state"], "going": ["plan", "state", "wanted"]},
+    "notes": {"written": ["statement"], "read": ["text"]},
 }
 CLASSES = {
     "errors": {name: {} for name in ["SaidError", "BadStatement", "Mixed", "TooMany", "BadMark", "NoMark", "BadText"]},
+    "plans": {"Plan": {"__init__": ["statement"]}},
+    "tellers": {"Teller": {"__init__": ["statement"], "tell": ["mark"], "said": [], "row": [], "end": [], "ways": []}},
 }
 
 
@@ -43,3 +49,8 @@ class Interface(unittest.TestCase):
                     rows = {row.name: row for row in found[name].body if isinstance(row, ast.FunctionDef)}
                     for method, names in methods.items():
                         self.assertEqual(arguments(rows[method]), ["self"] + names)
+
+    def test_the_fields_of_a_plan_are_set_when_it_is_created(self):
+        found = vars(Plan(("next", ("before", ("mark", "a")))))
+        for name in ["wishes", "pasts", "marks", "weights"]:
+            self.assertIs(type(found[name]), list, name)

@@ -17,7 +17,7 @@ BUILTINS = """len range enumerate zip min max sum abs sorted reversed int str bo
 METHODS = """append clear copy count endswith extend find get index insert isalnum isalpha isdigit islower isspace
     isupper items join keys ljust lower lstrip partition pop remove replace reverse rfind rjust rpartition rsplit
     rstrip setdefault split splitlines startswith strip update upper values zfill""".split()
-OWN_METHODS = []
+OWN_METHODS = ["_verdict_here", "_need_mark"]
 DOUBLE = ("__init__",)
 
 
@@ -98,12 +98,29 @@ class Language(unittest.TestCase):
             self.assertTrue(not node.name.startswith("__") or node.name in DOUBLE, where)
 
     def test_values(self):
-        barred = (ast.Set, ast.SetComp, ast.NamedExpr, ast.Await, ast.Yield, ast.YieldFrom, ast.Div, ast.MatMult,
+        barred = (ast.Set, ast.SetComp, ast.NamedExpr, ast.Await, ast.YieldFrom, ast.Div, ast.MatMult,
                   ast.Global, ast.Nonlocal)
         self.assertEqual([where for _, where in nodes(barred)], [])
         for node, where in nodes(ast.Constant):
             self.assertIn(type(node.value), (int, str, bool, type(None)), where)
             self.assertTrue(not isinstance(node.value, str) or "%" not in node.value, where)
+
+    def test_generators(self):
+        """Each yield is a row of its own, under no try; each call of a generator is iterated where it stands."""
+        for file in files():
+            inner = list(ast.walk(ast.parse(file.read_text())))
+            rows = [node.value for node in inner if isinstance(node, ast.Expr)]
+            iterated = [node.iter for node in inner if isinstance(node, (ast.For, ast.comprehension))]
+            functions = [node for node in inner if isinstance(node, ast.FunctionDef)]
+            makers = [function.name for function in functions
+                      if any(isinstance(node, ast.Yield) for node in ast.walk(function))]
+            for node in inner:
+                if isinstance(node, ast.Yield):
+                    self.assertIn(node, rows, file.name)
+                if isinstance(node, ast.Try):
+                    self.assertFalse([part for part in ast.walk(node) if isinstance(part, ast.Yield)], file.name)
+                if isinstance(node, ast.Name) and node.id in makers:
+                    self.assertIn(node, [call.func for call in iterated if isinstance(call, ast.Call)], file.name)
 
     def test_is_stands_beside_none_true_or_false(self):
         for node, where in nodes(ast.Compare):
